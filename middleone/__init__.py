@@ -1,0 +1,1 @@
+"""The k-th of all the numbers that stations far from each other hold."""
