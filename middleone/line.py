@@ -1,11 +1,9 @@
 """The objects that the calls of one line are made on."""
 
+from middleone.bounds import HIGHEST_STATION, MOST_STATIONS
 from middleone.centre import Centre
 from middleone.refusals import OUT_OF_BOUNDS
 from middleone.station import Station
-
-HIGHEST_STATION = 15
-MOST_STATIONS = 16
 
 
 class Line:

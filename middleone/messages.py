@@ -1,14 +1,15 @@
 """The 20 bytes of a question and of an answer."""
 
+from middleone.bounds import HIGHEST_STATION, LAST_ROUND, MOST_NUMBERS
 from middleone.checksum import crc32c
 
 QUESTION = 1
 ANSWER = 2
+STATION_AT = 1
 SEARCH_AT = 4
 ROUND_AT = 8
 LAST_FIELD_AT = 12
 CHECK_AT = 16
-LAST_ROUND = 32
 
 
 def four_bytes(number):
@@ -21,6 +22,11 @@ def number_at(message, place):
     low = message[place] + 256 * message[place + 1]
     high = message[place + 2] + 256 * message[place + 3]
     return low + 65536 * high
+
+
+def station_of(answer):
+    """The station that an answer is of."""
+    return answer[STATION_AT]
 
 
 def search_of(message):
@@ -36,6 +42,11 @@ def round_of(message):
 def x_of(question):
     """The number x of a question."""
     return number_at(question, LAST_FIELD_AT)
+
+
+def how_many_of(answer):
+    """How many numbers an answer tells of."""
+    return number_at(answer, LAST_FIELD_AT)
 
 
 def has_right_check(message):
@@ -55,8 +66,27 @@ def is_right_question(message):
     return has_right_search_and_round(message) and has_right_check(message)
 
 
+def is_right_answer(message):
+    """Whether a message is an answer, and right."""
+    station = station_of(message)
+    if message[:SEARCH_AT] != [ANSWER, station, 0, 0] or station > HIGHEST_STATION:
+        return False
+    if how_many_of(message) > MOST_NUMBERS:
+        return False
+    return has_right_search_and_round(message) and has_right_check(message)
+
+
+def written(head, search, round_number, last_field):
+    """The 20 bytes of a message whose first four are head."""
+    unchecked = head + four_bytes(search) + four_bytes(round_number) + four_bytes(last_field)
+    return unchecked + four_bytes(crc32c(unchecked))
+
+
+def written_question(search, round_number, x):
+    """The 20 bytes of a question of the centre."""
+    return written([QUESTION, 0, 0, 0], search, round_number, x)
+
+
 def written_answer(station, search, round_number, how_many):
     """The 20 bytes of a station's answer."""
-    fields = four_bytes(search) + four_bytes(round_number) + four_bytes(how_many)
-    unchecked = [ANSWER, station, 0, 0] + fields
-    return unchecked + four_bytes(crc32c(unchecked))
+    return written([ANSWER, station, 0, 0], search, round_number, how_many)

@@ -1,9 +1,8 @@
 """A station: it holds numbers, and tells only how many of them are at most x."""
 
+from middleone.bounds import MOST_NUMBERS
 from middleone.messages import is_right_question, round_of, search_of, written_answer, x_of
 from middleone.refusals import NO_ROOM, NOT_RIGHT, SEARCH_IS_OLD
-
-MOST_NUMBERS = 4096
 
 
 class Station:

@@ -1,7 +1,7 @@
 """Builds lines of calls and messages for the tests, and splits what is answered.
 
-The check is reckoned here in another way than in the program (from the high
-bit, with the polynomial turned round), so that one does not stand for the other.
+The check is reckoned here in another way than in the program (from the high bit,
+with the polynomial turned round, by a table), so that one does not stand for the other.
 """
 
 from middleone.search import answers
@@ -13,12 +13,21 @@ def reversed_bits(number, width):
     return int(format(number, f"0{width}b")[::-1], 2)
 
 
+def remainder(byte):
+    rest = byte << 24
+    for _ in range(8):
+        rest = (rest << 1) ^ (0x11EDC6F41 if rest >> 31 else 0)
+    return rest
+
+
+TURNED = [reversed_bits(byte, 8) for byte in range(256)]
+REMAINDERS = [remainder(byte) for byte in range(256)]
+
+
 def crc(numbers):
     check = TOP
     for byte in numbers:
-        check ^= reversed_bits(byte, 8) << 24
-        for _ in range(8):
-            check = (check << 1) ^ (0x11EDC6F41 if check >> 31 else 0)
+        check = ((check << 8) & TOP) ^ REMAINDERS[(check >> 24) ^ TURNED[byte]]
     return reversed_bits(check ^ TOP, 32)
 
 
@@ -57,6 +66,47 @@ def ks_many(station=0):
 
 def kc_start(stations):
     return [4, 0, stations]
+
+
+def kc_ask(k):
+    return [5, 0, k]
+
+
+def kc_say():
+    return [6, 0]
+
+
+def kc_heard(answered):
+    return [7, 0, len(answered)] + answered
+
+
+def kc_found():
+    return [8, 0]
+
+
+def x_towards(number, round_number):
+    """The x of a round in a search that will find number.
+
+    From round 1 on each round settles one bit of it, the highest first: the
+    bits settled so far, a 0, and ones stand for the half of lo and hi.
+    """
+    if round_number == 0:
+        return TOP
+    open_bits = 33 - round_number
+    return (number >> open_bits << open_bits) + 2 ** (open_bits - 1) - 1
+
+
+def told_towards(number, round_number, search=1, stations=1):
+    """Answers of all stations that lead a search for k = 0 on to number."""
+    how_many = int(number <= x_towards(number, round_number))
+    told = [answer(0, search, round_number, how_many)]
+    return told + [answer(station, search, round_number, 0) for station in range(1, stations)]
+
+
+def heard_towards(number, rounds=33, search=1, stations=1):
+    """The calls by which a centre hears all that is told in the first rounds."""
+    told = [told_towards(number, round_number, search, stations) for round_number in range(rounds)]
+    return [kc_heard(answered) for row in told for answered in row]
 
 
 def joined(rows):

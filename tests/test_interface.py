@@ -4,7 +4,10 @@ import time
 import unittest
 
 from middleone.search import UnknownCall, answers
-from tests.lines import TOP, answer, joined, kc_start, ks_add, ks_heard, ks_many, ks_start, question, split
+from tests.lines import (
+    TOP, answer, heard_towards, joined, kc_ask, kc_found, kc_heard, kc_say, kc_start, ks_add, ks_heard, ks_many,
+    ks_start, question, split, x_towards,
+)
 
 FEW_SECONDS = 5
 
@@ -15,6 +18,9 @@ def line_of_all_calls():
     return joined([
         ks_start(16), ks_start(3), ks_add(8), kc_start(0), kc_start(4), ks_many(),
         ks_heard(question(2, 1, 8)), ks_add(9), ks_heard(question(1)), ks_heard(wrong), ks_many(),
+        kc_say(), kc_found(), kc_start(1), kc_ask(0), kc_say(), kc_found(), kc_heard(wrong),
+        kc_heard(answer(0, 2, 0, 1)), *heard_towards(TOP), kc_found(), kc_say(),
+        kc_ask(1), kc_heard(answer(0, 2, 0, 1)), kc_found(),
     ])
 
 
@@ -22,10 +28,19 @@ class Form(unittest.TestCase):
     def test_how_many_numbers_stand_ahead(self):
         expected = [1, -22] + [1, 0] + [1, 0] + [1, -22] + [1, 0] + [3, 0, 1, 0]
         expected += [21, 1] + answer(3, 2, 1, 1) + [1, 0] + [1, -13] + [1, -71] + [3, 0, 1, 1]
+        expected += [1, -11] + [1, -11] + [1, 0] + [1, 0] + [21, 0] + question(1, 0, TOP) + [1, -11] + [1, -71]
+        expected += [1, 0] + [1, 1] * 33 + [2, 0, TOP] + [1, -11] + [1, 0] + [1, 1] + [1, -2]
         self.assertEqual(answers(line_of_all_calls()), expected)
 
     def test_calls_written_out(self):
         self.assertEqual(answers([0, 2, 7, 1, 2, 5, 3, 2, 4, 0, 16]), [1, 0, 1, 0, 3, 0, 1, 0, 1, 0])
+
+    def test_calls_of_a_search_written_out(self):
+        asked = [1, 0, 0, 0, 1, 0, 0, 0, 0, 0, 0, 0, 255, 255, 255, 255, 28, 247, 149, 54]
+        told = [2, 0, 0, 0, 1, 0, 0, 0, 0, 0, 0, 0, 1, 0, 0, 0, 111, 137, 176, 79]
+        calls = [0, 3, 0, 1, 3, 9, 4, 0, 1, 8, 0, 5, 0, 1, 6, 0, 2, 3, 20] + asked + [7, 0, 20] + told + [8, 0, 6, 0]
+        expected = [1, 0, 1, 0, 1, 0, 1, -11, 1, 0, 21, 0] + asked + [21, 1] + told + [1, 1, 1, -2, 1, -11]
+        self.assertEqual(answers(calls), expected)
 
     def test_kinds(self):
         given = answers(line_of_all_calls())
@@ -40,6 +55,12 @@ class Form(unittest.TestCase):
             ([ks_start(0), ks_heard(question(0))], -71),
             ([ks_start(0), ks_heard(question(2)), ks_heard(question(1))], -13),
             ([kc_start(17)], -22),
+            ([kc_start(1), kc_say()], -11),
+            ([kc_start(1), kc_heard(question())], -71),
+            ([kc_start(1), kc_ask(0), kc_heard(answer(16, 1, 0, 1))], -71),
+            ([kc_start(1), kc_found()], -11),
+            ([kc_start(1), kc_ask(0), kc_found()], -11),
+            ([kc_start(1), kc_ask(0), kc_heard(answer(0, 1, 0, 0)), kc_found()], -2),
         ):
             self.assertEqual(answers(joined(calls))[-2:], [1, refusal])
             self.assertEqual(split(answers(joined(calls)))[-1], [refusal])
@@ -80,6 +101,9 @@ class NothingKept(unittest.TestCase):
     def test_each_line_begins_anew(self):
         filled = joined([ks_start(0)] + [ks_add(1)] * 4096 + [ks_heard(question(TOP))])
         answers(filled)
+        answers(joined([kc_start(16), kc_ask(5), kc_ask(6)]))
+        self.assertEqual(answers(joined([kc_start(1), kc_say(), kc_ask(0), kc_say()])),
+                         [1, 0, 1, -11, 1, 0, 21, 0] + question(1))
         given = split(answers(joined([ks_start(0), ks_add(1), ks_many(), ks_heard(question(1))])))
         self.assertEqual(given, [[0], [0], [0, 1, 0], [1] + answer(0, 1, 0, 1)])
 
@@ -123,6 +147,53 @@ class LongLines(unittest.TestCase):
         calls += [ks_add(x, x % 4) for x in range(4992)] + [ks_many(station) for station in range(4)]
         self.assertEqual(len(calls), 5000)
         self.check_rows(self.given_soon(joined(calls)), [[0]] * 4996 + [[0, 1248, 0]] * 4)
+
+    def test_5000_calls_of_searches_that_are_given_up(self):
+        calls = [kc_start(16)] + [kc_ask(9), kc_say()] * 2499 + [kc_found()]
+        self.assertEqual(len(calls), 5000)
+        said = [row for search in range(1, 2500) for row in ([0], [0] + question(search))]
+        self.check_rows(self.given_soon(joined(calls)), [[0]] + said + [[-11]])
+
+    def test_5000_calls_that_say_the_same(self):
+        calls = [kc_start(1), kc_ask(0)] + heard_towards(9, 32) + [kc_say()] * 4966
+        self.assertEqual(len(calls), 5000)
+        expected = [[0], [0]] + [[1]] * 32 + [[0] + question(1, 32, 8)] * 4966
+        self.assertEqual(x_towards(9, 32), 8)
+        self.check_rows(self.given_soon(joined(calls)), expected)
+
+    def test_nearly_30000_numbers_of_searches(self):
+        calls = [kc_start(1)]
+        expected = [[0]]
+        for search in range(1, 40):
+            number = search * 2654435761 % 4294967296
+            calls += [kc_ask(0)] + heard_towards(number, 33, search) + [kc_found()]
+            expected += [[0]] + [[1]] * 33 + [[0, number]]
+        calls += [kc_say()] * 100
+        self.assertEqual(len(joined(calls)), 29999)
+        self.check_rows(self.given_soon(joined(calls)), expected + [[-11]] * 100)
+
+    def test_nearly_30000_numbers_of_answers_that_come_again(self):
+        calls = [kc_start(2), kc_ask(0)] + [kc_heard(answer(0, 1, 0, 1))] * 1303 + [kc_say()]
+        self.assertEqual(len(joined(calls)), 29977)
+        self.check_rows(self.given_soon(joined(calls)), [[0], [0], [1]] + [[0]] * 1302 + [[0] + question()])
+
+    def test_searches_of_a_full_station(self):
+        calls = [ks_start(0), kc_start(1)] + [ks_add(3 * x) for x in range(4096)]
+        expected = [[0]] * 4098
+        for search in range(1, 9):
+            number = 3 * (512 * search - 1)
+            calls.append(kc_ask(512 * search - 1))
+            expected.append([0])
+            for round_number in range(33):
+                x = x_towards(number, round_number)
+                told = min(x // 3 + 1, 4096)
+                row = answer(0, search, round_number, told)
+                calls += [kc_say(), ks_heard(question(search, round_number, x)), kc_heard(row)]
+                expected += [[0] + question(search, round_number, x), [told] + row, [1]]
+            calls.append(kc_found())
+            expected.append([0, number])
+        self.assertEqual((len(calls), len(joined(calls))), (4906, 25006))
+        self.check_rows(self.given_soon(joined(calls)), expected)
 
 
 if __name__ == "__main__":

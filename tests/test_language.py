@@ -55,6 +55,11 @@ def bound_names(node):
     return []
 
 
+def drawn_from(file):
+    tree = ast.parse(file.read_text(encoding="utf-8"))
+    return {node.module.split(".")[1] for node in ast.walk(tree) if isinstance(node, ast.ImportFrom)}
+
+
 class Files(unittest.TestCase):
     def test_only_plain_files_lie_in_the_package(self):
         self.assertTrue((PACKAGE / "__init__.py").is_file())
@@ -78,6 +83,8 @@ class Files(unittest.TestCase):
             names = []
             for node in tree.body[1:]:
                 self.assertIsInstance(node, TOP_FORMS, file.name)
+                if isinstance(node, ast.Assign):
+                    ast.literal_eval(node.value)
                 names += [name for part in [node] + getattr(node, "targets", []) for name in bound_names(part)]
                 names += [alias.name for alias in getattr(node, "names", [])]
             self.assertEqual(len(names), len(set(names)), file.name)
@@ -94,6 +101,22 @@ class Files(unittest.TestCase):
                 for alias in node.names:
                     self.assertIn(alias.name, defined, where)
                     self.assertIsNone(alias.asname, where)
+
+    def test_no_two_files_draw_from_one_another(self):
+        drawn = {file.stem: drawn_from(file) for file in FILES}
+        while drawn:
+            free = [name for name, modules in drawn.items() if not modules & set(drawn)]
+            self.assertNotEqual(free, [], drawn)
+            for name in free:
+                drawn.pop(name)
+
+    def test_no_local_is_called_like_a_class_or_an_import(self):
+        for file in FILES:
+            tree = ast.parse(file.read_text(encoding="utf-8"))
+            taken = {node.name for node in ast.walk(tree) if isinstance(node, (ast.ClassDef, ast.alias))}
+            for node in ast.walk(tree):
+                if isinstance(node, (ast.Name, ast.arg)):
+                    self.assertFalse(taken & set(bound_names(node)), f"{file.name}:{node.lineno}")
 
 
 class Code(unittest.TestCase):

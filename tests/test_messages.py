@@ -1,8 +1,10 @@
+"""The 20 bytes of a message, and their check."""
+
 import unittest
 
 from middleone.checksum import crc32c
-from middleone.messages import is_right_question, number_at, written_answer
-from tests.lines import TOP, crc, question
+from middleone.messages import is_right_answer, is_right_question, number_at, written_answer, written_question
+from tests.lines import TOP, answer, crc, question
 
 
 class Checksum(unittest.TestCase):
@@ -31,14 +33,28 @@ class Bytes(unittest.TestCase):
         self.assertEqual(written[:16], [2, 15, 0, 0, 0x0D, 0x0C, 0x0B, 0x0A, 32, 0, 0, 0, 0, 16, 0, 0])
         self.assertEqual(number_at(written, 16), crc(written[:16]))
 
-    def test_each_turned_bit_makes_a_question_wrong(self):
-        right = question(3, 7, 1000)
-        self.assertTrue(is_right_question(right))
+    def test_written_question(self):
+        written = written_question(0x0A0B0C0D, 32, 0x01020304)
+        self.assertEqual(written[:16], [1, 0, 0, 0, 0x0D, 0x0C, 0x0B, 0x0A, 32, 0, 0, 0, 4, 3, 2, 1])
+        self.assertEqual(number_at(written, 16), crc(written[:16]))
+
+    def check_turned_bits(self, is_right, right):
+        self.assertTrue(is_right(right))
         for place in range(20):
             for bit in range(8):
                 wrong = list(right)
                 wrong[place] ^= 1 << bit
-                self.assertFalse(is_right_question(wrong), (place, bit))
+                self.assertFalse(is_right(wrong), (place, bit))
+
+    def test_each_turned_bit_makes_a_question_wrong(self):
+        self.check_turned_bits(is_right_question, question(3, 7, 1000))
+
+    def test_each_turned_bit_makes_an_answer_wrong(self):
+        self.check_turned_bits(is_right_answer, answer(9, 3, 7, 1000))
+
+    def test_bounds_of_a_right_answer(self):
+        for station, search, round_number, how_many in ((0, 1, 0, 0), (15, TOP, 32, 4096)):
+            self.assertTrue(is_right_answer(answer(station, search, round_number, how_many)))
 
 
 if __name__ == "__main__":

@@ -1,0 +1,8 @@
+"""The greatest values that the program's parts have to agree on."""
+
+HIGHEST_STATION = 15
+MOST_STATIONS = 16
+MOST_NUMBERS = 4096
+LAST_ROUND = 32
+GREATEST_NUMBER = 4294967295
+MOST_SEARCHES = 4294967295
